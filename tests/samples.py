@@ -1,0 +1,116 @@
+"""Boards for the tests, and a die whose throws are the same in every run."""
+
+from leverhouse.boards import Board
+
+NAMES = "abcdefghijklmnopqrstuvwxyz"
+
+
+class Dice:
+    """Numbers in a fixed disorder."""
+
+    def __init__(self, seed):
+        self.now = seed * 7919 + 17
+
+    def below(self, count):
+        self.now = (self.now * 6364136223846793005 + 1442695040888963407) % 2 ** 64
+        return (self.now >> 33) % count
+
+    def pick(self, items):
+        return items[self.below(len(items))]
+
+    def two(self, items):
+        one = self.pick(items)
+        other = self.pick([item for item in items if item != one])
+        return one, other
+
+
+def node_names(count):
+    return ["p", "m"] + [f"n{k}" for k in range(count - 2)]
+
+
+def switch_names(count):
+    return [f"s{k}" for k in range(count)]
+
+
+def relay_parts(count, nodes):
+    return [(f"r{k}", nodes[k % len(nodes)], nodes[(k + 1) % len(nodes)]) for k in range(count)]
+
+
+def lamp_parts(count, nodes):
+    return [(f"l{k}", nodes[(k + 1) % len(nodes)], nodes[k % len(nodes)]) for k in range(count)]
+
+
+def contact_parts(count, nodes, movers):
+    contacts = []
+    for k in range(count):
+        one, other = nodes[k % len(nodes)], nodes[(k + 1) % len(nodes)]
+        mover = movers[k % len(movers)] if movers and k % 3 else None
+        when = "break" if mover is not None and k % 2 else "make"
+        contacts.append((one, other, mover, when, "forward" if k % 4 == 0 else "both"))
+    return contacts
+
+
+def sized_board(nodes=3, switches=1, relays=1, lamps=1, contacts=1, kind=list):
+    """A board with this number of parts of each kind."""
+    names = node_names(nodes)
+    hands = switch_names(switches)
+    coils = relay_parts(relays, names)
+    movers = hands + [coil[0] for coil in coils]
+    return Board(
+        nodes=kind(names),
+        switches=kind(hands),
+        relays=kind(coils),
+        lamps=kind(lamp_parts(lamps, names)),
+        contacts=kind(contact_parts(contacts, names, movers)),
+    )
+
+
+def odd_board(seed, most_switches=3, most_relays=3, most_contacts=10):
+    """A board in which anything may stand anywhere."""
+    dice = Dice(seed)
+    nodes = node_names(3 + dice.below(3))
+    switches = switch_names(dice.below(most_switches + 1))
+    relays = [(f"r{k}", *dice.two(nodes)) for k in range(dice.below(most_relays + 1))]
+    lamps = [(f"l{k}", *dice.two(nodes)) for k in range(1 + dice.below(2))]
+    movers = switches + [relay[0] for relay in relays]
+    contacts = []
+    for _ in range(dice.below(most_contacts + 1)):
+        mover = dice.pick(movers + [None])
+        when = "make" if mover is None else dice.pick(["make", "break"])
+        contacts.append((*dice.two(nodes), mover, when, dice.pick(["both", "forward"])))
+    return Board(nodes=nodes, switches=switches, relays=relays, lamps=lamps, contacts=contacts)
+
+
+def busy_board(seed, switches=2, relays=3):
+    """A board whose relays have coils at minus and contacts from plus, so that many of them move."""
+    dice = Dice(seed)
+    nodes = node_names(2 + relays)
+    inner = nodes[2:]
+    hands = switch_names(switches)
+    coils = []
+    for k in range(relays):
+        ends = (inner[k], "m")
+        coils.append((f"r{k}", *(ends if dice.below(2) else ends[::-1])))
+    movers = hands + [coil[0] for coil in coils]
+    contacts = []
+    for node in inner:
+        for _ in range(1 + dice.below(2)):
+            source = dice.pick(["p", "p", dice.pick([other for other in nodes if other != node])])
+            way = dice.pick(["both", "both", "forward"])
+            contacts.append((source, node, dice.pick(movers), dice.pick(["make", "break"]), way))
+    if dice.below(4) == 0:
+        contacts.append(("p", "m", dice.pick(movers), "make", "both"))
+    lamps = [("l0", dice.pick(inner), "m"), ("l1", *dice.two(nodes))]
+    return Board(nodes=nodes, switches=hands, relays=coils, lamps=lamps, contacts=contacts)
+
+
+def all_positions(board):
+    """All positions of the movers of the board."""
+    positions = [()]
+    for _ in board.movers:
+        positions = [row + (on,) for row in positions for on in (False, True)]
+    return positions
+
+
+def parts_of(board):
+    return (board.nodes, board.switches, board.relays, board.lamps, board.contacts)
