@@ -77,7 +77,8 @@ class Draft:
         return len(self.lamps) <= Board.MOST_LAMPS
 
     def _take_contact(self, part):
-        contact = [None if at == 2 and word == WIRE else word for at, word in enumerate(part)]
+        # Anywhere but in the place of the mover, None is as wrong as the sign of a wire is.
+        contact = [None if word == WIRE else word for word in part]
         if not is_contact(contact, self.nodes, self._mover_names()):
             return False
         self.contacts.append(contact)

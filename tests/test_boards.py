@@ -240,6 +240,29 @@ class TestLamps(unittest.TestCase):
         self.assertEqual(board.contacts_of("a"), [])
         self.assertEqual(board.contacts_at("a"), [0])
 
+    def test_names_that_are_words_of_contacts(self):
+        words = ["make", "break", "both", "forward"]
+        board = Board(
+            nodes=["p", "m", *words],
+            switches=words,
+            relays=[("p", "make", "both"), ("m", "break", "make")],
+            lamps=[("make", "forward", "both")],
+            contacts=[
+                ("p", "m", "break", "make", "both"),
+                ("make", "both", "forward", "break", "forward"),
+                ("m", "break", None, "make", "forward"),
+                ("forward", "break", "p", "make", "both"),
+            ],
+        )
+        at = {name: board.contacts_at(name) for name in board.nodes}
+        self.assertEqual(
+            at, {"p": [0], "m": [0, 2], "make": [1], "break": [2, 3], "both": [1], "forward": [3]}
+        )
+        of = {name: board.contacts_of(name) for name in board.movers}
+        self.assertEqual(
+            of, {"make": [], "break": [0], "both": [], "forward": [1], "p": [3], "m": []}
+        )
+
     def test_ends(self):
         for one in NODES:
             for other in NODES:

@@ -42,6 +42,17 @@ WRITTEN = [
         ),
         WHOLE,
     ),
+    (
+        Board(
+            nodes=["nodes", "make", "both"],
+            switches=["switches", "contact"],
+            relays=[("relay", "both", "make"), ("lamp", "make", "nodes")],
+            lamps=[("lamp", "both", "make")],
+            contacts=[("make", "both", "lamp", "make", "both")],
+        ),
+        "nodes nodes make both\nswitches switches contact\nrelay relay both make\n"
+        "relay lamp make nodes\nlamp lamp both make\ncontact make both lamp make both",
+    ),
 ]
 
 

@@ -1,0 +1,58 @@
+"""A board made ready for many questions about its states."""
+
+from leverhouse.current import Net
+
+
+class Machine:
+    """The states and moves of a board in a hurry.
+
+    What current does at some positions of the movers is computed once and kept, because a
+    search comes to the same positions again and again.
+    """
+
+    def __init__(self, board, hurry=0):
+        self.hurry = hurry
+        self._net = Net(board)
+        self._flows = {}
+        self._hand_count = len(board.switches)
+        hands = [("hand", name) for name in board.switches]
+        self._all_moves = hands + [("relay", name) for name, _, _ in board.relays]
+
+    def flow_at(self, movers):
+        """The Flow at these positions of the movers."""
+        if movers not in self._flows:
+            self._flows[movers] = self._net.flow(movers)
+        return self._flows[movers]
+
+    def start(self):
+        """The first state."""
+        movers = tuple([False for _ in self._all_moves])
+        return (movers, self.flow_at(movers).short)
+
+    def behind(self, state, number):
+        """The state behind a change of the mover with this number."""
+        movers, blown = state
+        moved = (*movers[:number], not movers[number], *movers[number + 1:])
+        return (moved, blown or self.flow_at(moved).short)
+
+    def due_numbers(self, state):
+        """The numbers, among the movers, of the relays that are due."""
+        movers, blown = state
+        numbers = []
+        for at, live in enumerate(self.flow_at(movers).coils, start=self._hand_count):
+            if movers[at] != (live and not blown):
+                numbers.append(at)
+        return numbers
+
+    def steps(self, state):
+        """The moves that can be made in the state, in their order, each with the state behind it."""
+        due = self.due_numbers(state)
+        hands = list(range(self._hand_count)) if len(due) <= self.hurry else []
+        return self._steps_of(state, hands + due)
+
+    def relay_steps(self, state):
+        """The moves of relays that can be made, in their order, each with the state behind it."""
+        return self._steps_of(state, self.due_numbers(state))
+
+    def _steps_of(self, state, numbers):
+        return [(self._all_moves[number], self.behind(state, number)) for number in numbers]

@@ -1,0 +1,135 @@
+import ast
+import importlib
+import inspect
+import unittest
+from pathlib import Path
+
+import leverhouse
+
+FOLDER = Path(leverhouse.__file__).parent
+# Modules that only compute.
+HARMLESS = {"heapq", "math", "itertools", "collections", "__future__"}
+REACHING_OUT = {"open", "input", "print", "exec", "eval", "compile", "__import__", "id", "hash"}
+
+INTERFACE = {
+    "errors": (
+        "LeverhouseError InvalidBoard InvalidState DifferentFaces NotDeterminate InvalidQuestion "
+        "NothingToUndo NothingToRedo UnknownName UnknownNumber InvalidNotation InvalidPlay TooMany "
+        "InvalidCertificate InvalidTiming NameInUse"
+    ),
+    "boards": "Board same_face check_faces",
+    "notation": "format_board parse_board",
+    "current": "closes closed_contacts is_closed fed feeds is_short live_relays live_lamps",
+    "plays": (
+        "Outcome check_state first_state due is_rest can_move step show walk run switching_of "
+        "play_text parse_play"
+    ),
+    "search": "moves Search explore explore_from all_states first_play rounds_of",
+    "settling": "Round Longest round_from settles ranks check_ranks",
+}
+METHODS = {
+    ("boards", "Board"): (
+        "is_name plus minus movers mover_number is_switch contacts_of contacts_at wires "
+        "replace_contact insert_contact without_contact"
+    ),
+    ("plays", "Outcome"): "at_rest",
+    ("search", "Search"): "holds start_of play_to",
+}
+PARAMETERS = {
+    "boards": {"same_face": "one other", "check_faces": "one other"},
+    "notation": {"format_board": "board", "parse_board": "text"},
+    "current": {
+        "closes": "contact on",
+        "closed_contacts": "board state",
+        "is_closed": "board state number",
+        "fed": "board state",
+        "feeds": "board state",
+        "is_short": "board state",
+        "live_relays": "board state",
+        "live_lamps": "board state",
+    },
+    "plays": {
+        "Outcome": "state due show",
+        "check_state": "board state",
+        "first_state": "board",
+        "due": "board state",
+        "is_rest": "board state",
+        "can_move": "board state move * hurry",
+        "step": "board state move",
+        "show": "board state",
+        "walk": "board play * hurry",
+        "run": "board play * hurry",
+        "switching_of": "play",
+        "play_text": "play",
+        "parse_play": "text",
+    },
+    "search": {
+        "moves": "board state * hurry",
+        "explore": "board * hurry limit",
+        "explore_from": "board starts * hurry limit",
+        "all_states": "board * hurry limit",
+        "first_play": "board states * hurry limit",
+        "rounds_of": "board * hurry limit",
+    },
+    "settling": {
+        "Round": "play moves",
+        "Longest": "play count",
+        "round_from": "board state",
+        "settles": "board * hurry limit",
+        "ranks": "board * hurry limit",
+        "check_ranks": "board table * hurry",
+    },
+}
+
+
+def module_of(name):
+    return importlib.import_module(f"leverhouse.{name}")
+
+
+def told_parameters(function):
+    words = []
+    for parameter in inspect.signature(function).parameters.values():
+        if parameter.kind == inspect.Parameter.KEYWORD_ONLY and "*" not in words:
+            words.append("*")
+        words.append(parameter.name)
+    return " ".join(words)
+
+
+class TestPackage(unittest.TestCase):
+    def test_it_defines_nothing_itself(self):
+        tree = ast.parse((FOLDER / "__init__.py").read_text(encoding="utf-8"))
+        told = [node for node in tree.body if not isinstance(node, ast.Expr)]
+        self.assertEqual(told, [])
+
+    def test_names_are_defined_where_they_are_listed(self):
+        for name, words in INTERFACE.items():
+            for word in words.split():
+                with self.subTest(name=name, word=word):
+                    self.assertEqual(getattr(module_of(name), word).__module__, f"leverhouse.{name}")
+
+    def test_methods_are_defined_in_their_class(self):
+        for (name, word), methods in METHODS.items():
+            for method in methods.split():
+                with self.subTest(word=word, method=method):
+                    self.assertIn(method, vars(getattr(module_of(name), word)))
+
+    def test_parameters(self):
+        for name, functions in PARAMETERS.items():
+            for word, told in functions.items():
+                with self.subTest(name=name, word=word):
+                    self.assertEqual(told_parameters(getattr(module_of(name), word)), told)
+
+    def test_no_clock_no_random_numbers_no_files(self):
+        for path in sorted(FOLDER.rglob("*.py")):
+            for node in ast.walk(ast.parse(path.read_text(encoding="utf-8"))):
+                with self.subTest(file=path.name, line=getattr(node, "lineno", 0)):
+                    if isinstance(node, ast.Import):
+                        self.fail("imports a module")
+                    if isinstance(node, ast.ImportFrom):
+                        self.assertIn(node.module.split(".")[0], {"leverhouse"} | HARMLESS)
+                    if isinstance(node, ast.Name):
+                        self.assertNotIn(node.id, REACHING_OUT)
+
+
+if __name__ == "__main__":
+    unittest.main()
