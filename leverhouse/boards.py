@@ -44,6 +44,13 @@ def check_number(number, count):
         raise UnknownNumber(number)
 
 
+def check_names(names, known):
+    """Raises UnknownName for the first of the names that is not among the known ones."""
+    for name in names:
+        if name not in known:
+            raise UnknownName(name)
+
+
 class Board:
     """A board: nodes, switches, relays, lamps, and the contacts between the nodes."""
 

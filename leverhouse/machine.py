@@ -1,20 +1,22 @@
 """A board made ready for many questions about its states."""
 
-from leverhouse.current import Net
+from leverhouse.current import Net, marked
 
 
 class Machine:
     """The states and moves of a board in a hurry.
 
-    What current does at some positions of the movers is computed once and kept, because a
-    search comes to the same positions again and again.
+    What current does at some positions of the movers, and where the moves of a state lead, is
+    computed once and kept, because a search comes to the same ones again and again.
     """
 
     def __init__(self, board, hurry=0):
         self.hurry = hurry
         self._net = Net(board)
         self._flows = {}
+        self._known_steps = {}
         self._hand_count = len(board.switches)
+        self._lamp_names = [name for name, _, _ in board.lamps]
         hands = [("hand", name) for name in board.switches]
         self._all_moves = hands + [("relay", name) for name, _, _ in board.relays]
 
@@ -44,15 +46,34 @@ class Machine:
                 numbers.append(at)
         return numbers
 
+    def rests(self, state):
+        """True if no relay is due."""
+        return len(self.relay_steps(state)) == 0
+
+    def shown(self, state):
+        """The show of the state."""
+        movers, blown = state
+        names = [] if blown else marked(self._lamp_names, self.flow_at(movers).bulbs)
+        return (tuple(names), blown)
+
     def steps(self, state):
         """The moves that can be made in the state, in their order, each with the state behind it."""
-        due = self.due_numbers(state)
-        hands = list(range(self._hand_count)) if len(due) <= self.hurry else []
-        return self._steps_of(state, hands + due)
+        return self.hand_steps(state) + self.relay_steps(state)
+
+    def hand_steps(self, state):
+        """The moves of hands that can be made, in their order, each with the state behind it."""
+        return self._steps_at(state)[0]
 
     def relay_steps(self, state):
         """The moves of relays that can be made, in their order, each with the state behind it."""
-        return self._steps_of(state, self.due_numbers(state))
+        return self._steps_at(state)[1]
+
+    def _steps_at(self, state):
+        if state not in self._known_steps:
+            due = self.due_numbers(state)
+            hands = list(range(self._hand_count)) if len(due) <= self.hurry else []
+            self._known_steps[state] = (self._steps_of(state, hands), self._steps_of(state, due))
+        return self._known_steps[state]
 
     def _steps_of(self, state, numbers):
         return [(self._all_moves[number], self.behind(state, number)) for number in numbers]

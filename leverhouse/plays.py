@@ -1,7 +1,7 @@
 """Moves, plays and what they lead to (points 19 to 26)."""
 
 from leverhouse.boards import Board
-from leverhouse.current import is_short, live_lamps
+from leverhouse.current import is_short
 from leverhouse.errors import InvalidNotation, InvalidPlay, InvalidState
 from leverhouse.machine import Machine
 
@@ -44,7 +44,7 @@ def due(board, state):
 
 def is_rest(board, state):
     """True if no relay is due."""
-    return len(due(board, state)) == 0
+    return Machine(board).rests(state)
 
 
 def can_move(board, state, move, *, hurry=0):
@@ -61,7 +61,7 @@ def step(board, state, move):
 
 def show(board, state):
     """The live lamps, and whether the fuse is blown."""
-    return (tuple(live_lamps(board, state)), state[1])
+    return Machine(board).shown(state)
 
 
 def walk(board, play, *, hurry=0):

@@ -1,7 +1,7 @@
 """Whether the relays of a board always come to rest (points 35 to 42)."""
 
 from leverhouse.machine import Machine
-from leverhouse.plays import check_state, first_state
+from leverhouse.plays import check_state
 from leverhouse.search import LIMIT, Search, search_all
 
 
@@ -30,14 +30,8 @@ def settles(board, *, hurry=0, limit=LIMIT):
     """A Round if the board does not settle, otherwise a Longest."""
     machine = Machine(board, hurry)
     search = search_all(machine, limit)
-    numbers = longest_rows(machine, search.states)
-    for state in search.states:
-        # No state with a number is on a round, so most searches for rounds are spared.
-        if state not in numbers:
-            moves = first_round(machine, state)
-            if moves is not None:
-                return Round(search.play_to(state), moves)
-    return _longest_of(machine, search, numbers)
+    found = first_restless(machine, search)
+    return _longest_of(machine, search) if found is None else found
 
 
 def ranks(board, *, hurry=0, limit=LIMIT):
@@ -54,22 +48,41 @@ def check_ranks(board, table, *, hurry=0):
     """True if the table of states and numbers shows that the board settles."""
     for state, _ in table:
         check_state(board, state)
+    return is_falling(Machine(board, hurry), table)
+
+
+def is_falling(machine, table):
+    """True if a table of states and numbers holds the start and, with each state, all behind it.
+
+    Behind the move of a relay, a state has to stand there with a smaller number.
+    """
     least = {}
     for state, number in table:
         least[state] = min(number, least.get(state, number))
-    if first_state(board) not in least:
+    if machine.start() not in least:
         return False
-    machine = Machine(board, hurry)
-    return all([_row_holds(machine, least, state, number) for state, number in table])
+    return all([_falls_from(machine, least, state, number) for state, number in table])
 
 
-def _row_holds(machine, least, state, number):
+def _falls_from(machine, least, state, number):
     for (kind, _), behind in machine.steps(state):
         if behind not in least:
             return False
-        if kind == "relay" and least[behind] >= number:
+        if kind != "hand" and least[behind] >= number:
             return False
     return True
+
+
+def first_restless(machine, search):
+    """The Round at the first of the found states that is on a round, or None."""
+    numbers = longest_rows(machine, search.states)
+    for state in search.states:
+        # No state with a number is on a round, so most searches for rounds are spared.
+        if state not in numbers:
+            moves = first_round(machine, state)
+            if moves is not None:
+                return Round(search.play_to(state), moves)
+    return None
 
 
 def first_round(machine, start):
@@ -118,7 +131,8 @@ def longest_rows(machine, states):
     return numbers
 
 
-def _longest_of(machine, search, numbers):
+def _longest_of(machine, search):
+    numbers = longest_rows(machine, search.states)
     count = max([numbers[state] for state in search.states])
     state = [found for found in search.states if numbers[found] == count][0]
     play = search.play_to(state)

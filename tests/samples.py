@@ -104,6 +104,74 @@ def busy_board(seed, switches=2, relays=3):
     return Board(nodes=nodes, switches=hands, relays=coils, lamps=lamps, contacts=contacts)
 
 
+def small_board(nodes="a", switches="", coils=(), lamps=("xa",), contacts=()):
+    """A board of names of one letter, between the nodes p and m and some others.
+
+    The coil `ra` is that of the relay r, from the node a to minus; the lamp `xa` is x, from the node a
+    to minus; the lamp `xab` is x, from a to b. The contact `pas` goes from p to a and is closed while
+    s is on; `pa-` is a wire; `pa!s` is closed while s is off; `pas>` leads from p to a alone.
+    """
+    return Board(
+        nodes=["p", "m", *nodes],
+        switches=list(switches),
+        relays=[(part[0], part[1], "m") for part in coils],
+        lamps=[(part[0], part[1], part[2:] or "m") for part in lamps],
+        contacts=[small_contact(part) for part in contacts],
+    )
+
+
+def small_contact(text):
+    way = "forward" if text.endswith(">") else "both"
+    when = "break" if "!" in text else "make"
+    one, other, mover = text.replace(">", "").replace("!", "")
+    return (one, other, None if mover == "-" else mover, when, way)
+
+
+def small_play(text):
+    """The play of these words: a name in capitals is that of a hand, any other one that of a relay."""
+    return [("hand", word.lower()) if word.isupper() else ("relay", word) for word in text.split()]
+
+
+def board_like(board, **parts):
+    """The board with some of its parts put in the place of its own."""
+    own = {
+        "nodes": board.nodes,
+        "switches": board.switches,
+        "relays": board.relays,
+        "lamps": board.lamps,
+        "contacts": board.contacts,
+    }
+    return Board(**{**own, **parts})
+
+
+def twin_of(board, seed):
+    """A board of the same face that is another one in some way, most often by a contact."""
+    dice = Dice(seed)
+    kind = dice.below(8)
+    count = len(board.contacts)
+    number = dice.below(count) if count else 0
+    mover = dice.pick([*board.movers, None])
+    when = "make" if mover is None else dice.pick(["make", "break"])
+    contact = (*dice.two(board.nodes), mover, when, dice.pick(["both", "forward"]))
+    if kind == 0:
+        return board_like(board, relays=board.relays[::-1], contacts=board.contacts[::-1])
+    if kind == 1:
+        lamps = [(board.lamps[0][0], *dice.two(board.nodes)), *board.lamps[1:]]
+        return board_like(board, lamps=lamps)
+    if kind == 2 and board.relays:
+        left = [part for part in board.contacts if part[2] != board.relays[-1][0]]
+        return board_like(board, relays=board.relays[:-1], contacts=left)
+    if kind == 3 or not count:
+        return board.insert_contact(number, contact)
+    if kind == 4:
+        return board.replace_contact(number, contact)
+    if kind == 5:
+        one, other, mover, when, way = board.contacts[number]
+        way = "forward" if way == "both" else "both"
+        return board.replace_contact(number, (one, other, mover, when, way))
+    return board.without_contact(number)
+
+
 def all_positions(board):
     """All positions of the movers of the board."""
     positions = [()]

@@ -26,6 +26,10 @@ INTERFACE = {
     ),
     "search": "moves Search explore explore_from all_states first_play rounds_of",
     "settling": "Round Longest round_from settles ranks check_ranks",
+    "pairs": "first_pair joint_moves joint_step split_play all_pairs",
+    "agree": "Unsettled Parting agree agreement check_agreement",
+    "races": "race is_determinate least_race greatest_hurry",
+    "ends": "possible_states rest_states rest_shows",
 }
 METHODS = {
     ("boards", "Board"): (
@@ -78,6 +82,31 @@ PARAMETERS = {
         "settles": "board * hurry limit",
         "ranks": "board * hurry limit",
         "check_ranks": "board table * hurry",
+    },
+    "pairs": {
+        "first_pair": "one other",
+        "joint_moves": "one other pair * hurry",
+        "joint_step": "one other pair move",
+        "split_play": "play",
+        "all_pairs": "one other * hurry limit",
+    },
+    "agree": {
+        "Unsettled": "which play moves",
+        "Parting": "first second shows",
+        "agree": "one other * hurry limit",
+        "agreement": "one other * hurry limit",
+        "check_agreement": "one other entries * hurry",
+    },
+    "races": {
+        "race": "board * hurry limit",
+        "is_determinate": "board * hurry limit",
+        "least_race": "board * limit",
+        "greatest_hurry": "board * limit",
+    },
+    "ends": {
+        "possible_states": "board switching * hurry limit",
+        "rest_states": "board switching * hurry limit",
+        "rest_shows": "board switching * hurry limit",
     },
 }
 

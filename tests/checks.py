@@ -1,0 +1,24 @@
+"""What many tests check in the same way."""
+
+import inspect
+
+from leverhouse.errors import TooMany
+
+
+def check_limits(test, count, question):
+    """`question`, a function of the limit, counts exactly so many."""
+    question(count)
+    question(count + 1)
+    for limit in sorted({1, count - 1} - {0, count}):
+        with test.assertRaises(TooMany) as caught:
+            question(limit)
+        test.assertEqual(caught.exception.limit, limit)
+
+
+def check_defaults(test, *functions):
+    """What the functions take if a hurry or a limit is not given."""
+    for function in functions:
+        parameters = inspect.signature(function).parameters
+        test.assertEqual(parameters["limit"].default, 3000)
+        if "hurry" in parameters:
+            test.assertEqual(parameters["hurry"].default, 0)
