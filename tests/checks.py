@@ -2,6 +2,8 @@
 
 import inspect
 
+from leverhouse.agree import Parting, Unsettled
+from leverhouse.changes import LateParting, LateRound
 from leverhouse.errors import TooMany
 
 
@@ -22,3 +24,16 @@ def check_defaults(test, *functions):
         test.assertEqual(parameters["limit"].default, 3000)
         if "hurry" in parameters:
             test.assertEqual(parameters["hurry"].default, 0)
+
+
+def told(result):
+    """The fields of what `agree`, `race` or `change` returns, as tests.slow gives them."""
+    if isinstance(result, Unsettled):
+        return (result.which, result.play, result.moves)
+    if isinstance(result, Parting):
+        return (result.first, result.second, result.shows)
+    if isinstance(result, LateRound):
+        return (result.before, result.play, result.moves)
+    if isinstance(result, LateParting):
+        return (result.before, result.first, result.second, result.shows)
+    return result

@@ -104,17 +104,52 @@ def busy_board(seed, switches=2, relays=3):
     return Board(nodes=nodes, switches=hands, relays=coils, lamps=lamps, contacts=contacts)
 
 
+def deep_board(seed, switches=1, relays=2):
+    """A board whose relays and lamps are fed through one contact or through two in a row."""
+    dice = Dice(seed)
+    targets = [f"t{k}" for k in range(relays + 2)]
+    nodes = ["p", "m", *targets]
+    hands = switch_names(switches)
+    coils = [(f"r{k}", targets[k], "m") for k in range(relays)]
+    movers = hands + [coil[0] for coil in coils]
+    contacts = []
+    for target in targets:
+        for _ in range(1 + dice.below(2)):
+            source = "p"
+            if dice.below(3):
+                nodes.append(f"n{len(nodes)}")
+                source = nodes[-1]
+                contacts.append(("p", source, dice.pick(movers), dice.pick(["make", "break"]), "both"))
+            contacts.append((source, target, dice.pick(movers), dice.pick(["make", "break"]), "both"))
+    lamps = [("l0", targets[-1], "m"), ("l1", "m", targets[-2])]
+    return Board(nodes=nodes, switches=hands, relays=coils, lamps=lamps, contacts=contacts)
+
+
+def bridge_board(seed):
+    """A board with lamps at nodes that are fed by themselves and through each other."""
+    dice = Dice(seed)
+    movers = ["s", "t", "r"]
+    contacts = [("p", "a", "s", "make", "both"), ("p", "b", "t", dice.pick(["make", "break"]), "both")]
+    for _ in range(2 + dice.below(3)):
+        mover = dice.pick([None, None, *movers])
+        when = "make" if mover is None else dice.pick(["make", "break"])
+        contacts.append((*dice.two(["a", "b", "c"]), mover, when, dice.pick(["both", "both", "forward"])))
+    lamps = [("x", "a", "m"), ("y", "b", "m"), ("z", *dice.two(["a", "b", "c", "m"]))]
+    relays = [("r", dice.pick(["a", "b", "c"]), "m")]
+    return Board(nodes=["p", "m", "a", "b", "c"], switches=["s", "t"], relays=relays, lamps=lamps, contacts=contacts)
+
+
 def small_board(nodes="a", switches="", coils=(), lamps=("xa",), contacts=()):
     """A board of names of one letter, between the nodes p and m and some others.
 
-    The coil `ra` is that of the relay r, from the node a to minus; the lamp `xa` is x, from the node a
-    to minus; the lamp `xab` is x, from a to b. The contact `pas` goes from p to a and is closed while
+    The coil `ra` is that of the relay r, from the node a to minus; the coil `rab` lies between a and b;
+    lamps are given in the same way. The contact `pas` goes from p to a and is closed while
     s is on; `pa-` is a wire; `pa!s` is closed while s is off; `pas>` leads from p to a alone.
     """
     return Board(
         nodes=["p", "m", *nodes],
         switches=list(switches),
-        relays=[(part[0], part[1], "m") for part in coils],
+        relays=[(part[0], part[1], part[2:] or "m") for part in coils],
         lamps=[(part[0], part[1], part[2:] or "m") for part in lamps],
         contacts=[small_contact(part) for part in contacts],
     )

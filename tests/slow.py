@@ -166,3 +166,123 @@ def relay_closed(slow, states):
 def ascending(states):
     """The states as point 60 orders them."""
     return sorted(states, key=lambda state: ["01"[on] for on in state[0]] + ["01"[state[1]]])
+
+
+def rest_shows(slow, switching, hurry):
+    """The set of all shows of states at rest that plays of the switching lead to."""
+    return {slow.show(state) for state in possible(slow, switching, hurry) if slow.rests(state)}
+
+
+def switchings(board, most):
+    """All switchings of at most so many hands, in the order of point 76."""
+    level = [[]]
+    for _ in range(most + 1):
+        yield from level
+        level = [switching + [name] for switching in level for name in board.switches]
+
+
+def states_of(slow, play):
+    states = [slow.start]
+    for _, name in play:
+        states.append(slow.step(states[-1], name))
+    return states
+
+
+def case_of(slow, lamp, play):
+    """The case of the lamp behind a play without hurry (point 71), from the whole play."""
+    states = states_of(slow, play)
+    hands = [number for number, move in enumerate(play) if move[0] == "hand"]
+    if not hands:
+        return (states[-1], None, False)
+    # The part of the last hand: the state before it, and those behind its moves.
+    before, *part = [lamp in slow.show(state)[0] for state in states[hands[-1]:]]
+    if not slow.rests(states[-1]):
+        return (states[-1], (before, any(lit != before for lit in part)), False)
+    flashed = part[-1] == before and any(lit != before for lit in part[:-1])
+    return (states[-1], None, flashed)
+
+
+def cases(slow, lamp):
+    """A dict in the order of finding: case -> the first play to it."""
+    found = {case_of(slow, lamp, []): []}
+    queue = list(found)
+    while queue:
+        case = queue.pop(0)
+        if case[2]:
+            continue
+        for move, _ in slow.behind(case[0], 0):
+            play = found[case] + [move]
+            after = case_of(slow, lamp, play)
+            if after not in found:
+                found[after] = play
+                queue.append(after)
+    return found
+
+
+def first_flash(slow, lamp):
+    """The play and the number of its last hand, or None."""
+    for case, play in cases(slow, lamp).items():
+        if case[2]:
+            return play, max(number for number, move in enumerate(play) if move[0] == "hand")
+    return None
+
+
+def changed_state(one, other, state):
+    """Point 85 for two boards (not Slow ones) with the same face."""
+    movers = list(state[0][:len(one.switches)])
+    up = [relay[0] for relay, on in zip(one.relays, state[0][len(one.switches):]) if on]
+    movers += [relay[0] in up for relay in other.relays]
+    return (tuple(movers), state[1] or naive.short(other, tuple(movers)))
+
+
+def moments(one, other, hurry):
+    """The pairs of a moment and its changed state, each with the first play to the moment."""
+    for state, play in one.reached([one.start], hurry).items():
+        if one.rests(state):
+            yield (state, changed_state(one.board, other.board, state)), play
+
+
+def change(one, other, hurry):
+    """None, ("one", play, moves), (before, play, moves) or (before, first, second, shows)."""
+    found = one.trouble([one.start], hurry)
+    if found is not None:
+        return ("one", *found)
+    for (state, changed), before in moments(one, other, hurry):
+        found = other.trouble([changed], hurry)
+        if found is not None:
+            return (before, *found)
+        found = parting(one, other, [(state, changed)], hurry)
+        if found is not None:
+            return (before, *found)
+    return None
+
+
+def change_counts(one, other, hurry):
+    """What point 88 counts: states of the one, states of the other, and pairs."""
+    starts = [pair for pair, _ in moments(one, other, hurry)]
+    states = one.reached([one.start], hurry)
+    changed = other.reached([pair[1] for pair in starts], hurry)
+    return [len(states), len(changed), len(reached_pairs(one, other, starts, hurry))]
+
+
+def agree_count(one, other, hurry):
+    """The greatest of what `agree` counts for the two boards."""
+    pairs = reached_pairs(one, other, [(one.start, other.start)], hurry)
+    return max(len(one.reached([one.start], hurry)), len(other.reached([other.start], hurry)), len(pairs))
+
+
+def use_of(slow, number, hurry):
+    """The word of the contact, and the greatest of what its questions count."""
+    board = slow.board
+    one, other, mover, when, way = board.contacts[number]
+    questions = [("idle", board.without_contact(number))]
+    if way == "both":
+        for word, ends in (("forward", (one, other)), ("back", (other, one))):
+            questions.append((word, board.replace_contact(number, (*ends, mover, when, "forward"))))
+    counts = []
+    for word, changed in questions:
+        changed = Slow(changed)
+        counts.append(agree_count(slow, changed, hurry))
+        if agree(slow, changed, hurry) is None:
+            return word, max(counts)
+    return ("forward" if way == "forward" else "needed"), max(counts)

@@ -9,8 +9,8 @@ from leverhouse.plays import run, switching_of
 from leverhouse.search import all_states
 from leverhouse.settling import settles
 from tests import naive, slow
-from tests.checks import check_defaults, check_limits
-from tests.samples import Dice, board_like, busy_board, odd_board, parts_of, small_board, small_play, twin_of
+from tests.checks import check_defaults, check_limits, told
+from tests.samples import Dice, busy_board, odd_board, parts_of, small_board, small_play, twin_of
 
 HURRIES = (0, 1, 2, 8)
 
@@ -28,15 +28,6 @@ EARLY_BUZZER = small_board("ab", "s", ["rb"], ["xa"], ["pa!s", "ab!r"])
 SHORT = small_board("a", "s", [], ["xa"], ["pms"])
 # The relay holds itself, if it is given the time to come up.
 HASTY = small_board("a", "s", ["ra"], ["xa"], ["pas", "par"])
-
-
-def told(result):
-    """The result of agree as tests.slow gives it."""
-    if isinstance(result, Unsettled):
-        return (result.which, result.play, result.moves)
-    if isinstance(result, Parting):
-        return (result.first, result.second, result.shows)
-    return result
 
 
 def couples():
@@ -69,10 +60,6 @@ def shows_agreement(one, other, entries, hurry):
             if not places or move[0] != "hand" and not [entry for entry in places if entry[2] < number]:
                 return False
     return True
-
-
-def lamp_at(one, other):
-    return Board(nodes=["p", "m", "a"], switches=["s"], lamps=[("x", one, other)])
 
 
 class TestClasses(unittest.TestCase):

@@ -30,6 +30,10 @@ INTERFACE = {
     "agree": "Unsettled Parting agree agreement check_agreement",
     "races": "race is_determinate least_race greatest_hurry",
     "ends": "possible_states rest_states rest_shows",
+    "shows": "never all_shows first_short Flash first_flash flashes",
+    "uses": "one_way use_of uses",
+    "howto": "show_at_rest how_to way_back",
+    "changes": "LateRound LateParting changed_state change",
 }
 METHODS = {
     ("boards", "Board"): (
@@ -107,6 +111,30 @@ PARAMETERS = {
         "possible_states": "board switching * hurry limit",
         "rest_states": "board switching * hurry limit",
         "rest_shows": "board switching * hurry limit",
+    },
+    "shows": {
+        "never": "board * on off rest hurry limit",
+        "all_shows": "board * rest hurry limit",
+        "first_short": "board * hurry limit",
+        "Flash": "lamp play hand",
+        "first_flash": "board lamp * limit",
+        "flashes": "board * limit",
+    },
+    "uses": {
+        "one_way": "board number * back",
+        "use_of": "board number * hurry limit",
+        "uses": "board * hurry limit",
+    },
+    "howto": {
+        "show_at_rest": "board switching * hurry limit",
+        "how_to": "board on * hurry limit",
+        "way_back": "board switching * hurry limit",
+    },
+    "changes": {
+        "LateRound": "before play moves",
+        "LateParting": "before first second shows",
+        "changed_state": "one other state",
+        "change": "one other * hurry limit",
     },
 }
 

@@ -8,7 +8,7 @@ from leverhouse.plays import run, switching_of
 from leverhouse.races import greatest_hurry, is_determinate, least_race, race
 from leverhouse.search import all_states
 from tests import naive, slow
-from tests.checks import check_defaults, check_limits
+from tests.checks import check_defaults, check_limits, told
 from tests.samples import busy_board, odd_board, parts_of, small_board, small_play
 
 LIT, DARK = (("x",), False), ((), False)
@@ -52,14 +52,6 @@ def many_boards():
     for seed in (206, 453):
         yield busy_board(seed)
         yield odd_board(seed)
-
-
-def told(result):
-    if isinstance(result, Unsettled):
-        return (result.which, result.play, result.moves)
-    if isinstance(result, Parting):
-        return (result.first, result.second, result.shows)
-    return result
 
 
 def counted(board, hurry):
