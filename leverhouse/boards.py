@@ -10,10 +10,15 @@ WHENS = ("make", "break")
 WAYS = ("both", "forward")
 
 
+def is_good_name(text):
+    """True if the string is a name (point 2)."""
+    return 1 <= len(text) <= LONGEST_NAME and all([letter in CHARACTERS for letter in text])
+
+
 def are_names(names, least, most):
     """True if these are at least `least` and at most `most` names, all of them different."""
     for number, name in enumerate(names):
-        if not Board.is_name(name) or name in names[:number]:
+        if not is_good_name(name) or name in names[:number]:
             return False
     return least <= len(names) <= most
 
@@ -23,7 +28,7 @@ def is_span(part, nodes):
     if len(part) != 3:
         return False
     name, one, other = part
-    return Board.is_name(name) and one in nodes and other in nodes and one != other
+    return is_good_name(name) and one in nodes and other in nodes and one != other
 
 
 def is_contact(part, nodes, movers):
@@ -96,8 +101,8 @@ class Board:
 
     @staticmethod
     def is_name(text):
-        """True if the string is a name (point 2)."""
-        return 1 <= len(text) <= LONGEST_NAME and all([letter in CHARACTERS for letter in text])
+        """True if the string is a name."""
+        return is_good_name(text)
 
     @property
     def plus(self):

@@ -16,37 +16,54 @@ class Relays:
         return self._machine.relay_steps(state)
 
 
+class Ends:
+    """The states that the switchings of a board lead to in a hurry, and the shows, which are kept."""
+
+    def __init__(self, board, hurry, limit):
+        self._machine = Machine(board, hurry)
+        self._relays = Relays(self._machine)
+        self._limit = limit
+        self._known_shows = {}
+
+    def possible(self, switching):
+        """The possible states, in ascending order."""
+        states = self._spread([self._machine.start()])
+        for name in switching:
+            starts = []
+            for state in states:
+                starts += [behind for move, behind in self._machine.hand_steps(state) if move[1] == name]
+            states = self._spread(starts)
+        return sorted(states)
+
+    def resting(self, switching):
+        """The possible states in which no relay is due."""
+        return [state for state in self.possible(switching) if self._machine.rests(state)]
+
+    def seen(self, switching):
+        """The different shows of the states at rest, in their order."""
+        key = tuple(switching)
+        if key not in self._known_shows:
+            shows = {self._machine.shown(state): True for state in self.resting(switching)}
+            self._known_shows[key] = list(shows)
+        return list(self._known_shows[key])
+
+    def _spread(self, starts):
+        return search_from(self._relays, starts, self._limit).states
+
+
 def possible_states(board, switching, *, hurry=0, limit=LIMIT):
     """The states that plays of the switching lead to, in ascending order."""
     check_names(switching, board.switches)
-    return _possible(Machine(board, hurry), switching, limit)
+    return Ends(board, hurry, limit).possible(switching)
 
 
 def rest_states(board, switching, *, hurry=0, limit=LIMIT):
     """The possible states in which no relay is due."""
     check_names(switching, board.switches)
-    machine = Machine(board, hurry)
-    return _at_rest(machine, _possible(machine, switching, limit))
+    return Ends(board, hurry, limit).resting(switching)
 
 
 def rest_shows(board, switching, *, hurry=0, limit=LIMIT):
     """The different shows of the states at rest, in their order."""
     check_names(switching, board.switches)
-    machine = Machine(board, hurry)
-    states = _at_rest(machine, _possible(machine, switching, limit))
-    return list({machine.shown(state): True for state in states})
-
-
-def _possible(machine, switching, limit):
-    relays = Relays(machine)
-    states = search_from(relays, [machine.start()], limit).states
-    for name in switching:
-        starts = []
-        for state in states:
-            starts += [behind for move, behind in machine.hand_steps(state) if move[1] == name]
-        states = search_from(relays, starts, limit).states
-    return sorted(states)
-
-
-def _at_rest(machine, states):
-    return [state for state in states if machine.rests(state)]
+    return Ends(board, hurry, limit).seen(switching)

@@ -2,6 +2,8 @@
 
 from leverhouse.current import Net, marked
 
+MOST_HURRY = 8
+
 
 class Machine:
     """The states and moves of a board in a hurry.

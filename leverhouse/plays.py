@@ -1,6 +1,6 @@
 """Moves, plays and what they lead to (points 19 to 26)."""
 
-from leverhouse.boards import Board
+from leverhouse.boards import is_good_name
 from leverhouse.current import is_short
 from leverhouse.errors import InvalidNotation, InvalidPlay, InvalidState
 from leverhouse.machine import Machine
@@ -103,6 +103,6 @@ def parse_play(text):
 
 def _parse_move(line, number):
     words = line.split(" ")
-    if len(words) != 2 or words[0] not in KINDS or not Board.is_name(words[1]):
+    if len(words) != 2 or words[0] not in KINDS or not is_good_name(words[1]):
         raise InvalidNotation(number)
     return (words[0], words[1])

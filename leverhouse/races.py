@@ -2,9 +2,8 @@
 
 from leverhouse.agree import agree
 from leverhouse.errors import NotDeterminate
+from leverhouse.machine import MOST_HURRY
 from leverhouse.search import LIMIT
-
-MOST_HURRY = 8
 
 
 def race(board, *, hurry=0, limit=LIMIT):

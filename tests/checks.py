@@ -5,6 +5,7 @@ import inspect
 from leverhouse.agree import Parting, Unsettled
 from leverhouse.changes import LateParting, LateRound
 from leverhouse.errors import TooMany
+from leverhouse.races import is_determinate
 
 
 def check_limits(test, count, question):
@@ -24,6 +25,14 @@ def check_defaults(test, *functions):
         test.assertEqual(parameters["limit"].default, 3000)
         if "hurry" in parameters:
             test.assertEqual(parameters["hurry"].default, 0)
+
+
+def determinate_in(boards):
+    """Each of the boards with the hurries 0 and 1, as far as it is determinate in them."""
+    for board in boards:
+        for hurry in (0, 1):
+            if is_determinate(board, hurry=hurry):
+                yield board, hurry
 
 
 def told(result):

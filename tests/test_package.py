@@ -34,6 +34,10 @@ INTERFACE = {
     "uses": "one_way use_of uses",
     "howto": "show_at_rest how_to way_back",
     "changes": "LateRound LateParting changed_state change",
+    "delays": "Delays TimedRun timed_run pulses lit_time shown_at first_difference",
+    "faults": "Seen Restless all_faults faulty fault_verdict shown_by suspects",
+    "suites": "seen_faults suite check_suite",
+    "certificates": "settling_certificate agreement_certificate check_settling check_agreeing",
 }
 METHODS = {
     ("boards", "Board"): (
@@ -42,6 +46,8 @@ METHODS = {
     ),
     ("plays", "Outcome"): "at_rest",
     ("search", "Search"): "holds start_of play_to",
+    ("delays", "Delays"): "delay",
+    ("delays", "TimedRun"): "plain",
 }
 PARAMETERS = {
     "boards": {"same_face": "one other", "check_faces": "one other"},
@@ -135,6 +141,35 @@ PARAMETERS = {
         "LateParting": "before first second shows",
         "changed_state": "one other state",
         "change": "one other * hurry limit",
+    },
+    "delays": {
+        "Delays": "board * up down",
+        "TimedRun": "until moves shows state rest",
+        "timed_run": "delays events * until",
+        "pulses": "run lamp",
+        "lit_time": "run lamp",
+        "shown_at": "run instant",
+        "first_difference": "one other",
+    },
+    "faults": {
+        "Seen": "switching shows",
+        "Restless": "play moves",
+        "all_faults": "board",
+        "faulty": "board fault",
+        "fault_verdict": "board fault * hurry limit",
+        "shown_by": "board fault switching * hurry limit",
+        "suspects": "board faults switching shown * hurry limit",
+    },
+    "suites": {
+        "seen_faults": "board faults * hurry limit",
+        "suite": "board faults * hurry limit",
+        "check_suite": "board faults switchings * hurry limit",
+    },
+    "certificates": {
+        "settling_certificate": "board * hurry limit",
+        "agreement_certificate": "one other * hurry limit",
+        "check_settling": "board text",
+        "check_agreeing": "one other text",
     },
 }
 
