@@ -38,6 +38,10 @@ INTERFACE = {
     "faults": "Seen Restless all_faults faulty fault_verdict shown_by suspects",
     "suites": "seen_faults suite check_suite",
     "certificates": "settling_certificate agreement_certificate check_settling check_agreeing",
+    "tidy": "Tidied tidy without_relay idle_relays check_tidied",
+    "bench": "Workbench decide",
+    "commands": "split_words is_number is_command",
+    "session": "Session",
 }
 METHODS = {
     ("boards", "Board"): (
@@ -48,6 +52,46 @@ METHODS = {
     ("search", "Search"): "holds start_of play_to",
     ("delays", "Delays"): "delay",
     ("delays", "TimedRun"): "plain",
+    ("bench", "Workbench"): (
+        "set_board remove_board replace_contact insert_contact remove_contact ask drop undo redo "
+        "change_all board_names question_names board question answer answers"
+    ),
+    ("session", "Session"): "run",
+}
+METHOD_PARAMETERS = {
+    ("boards", "Board"): {
+        "is_name": "text",
+        "mover_number": "name",
+        "is_switch": "name",
+        "contacts_of": "name",
+        "contacts_at": "node",
+        "wires": "",
+        "replace_contact": "number contact",
+        "insert_contact": "number contact",
+        "without_contact": "number",
+    },
+    ("search", "Search"): {"holds": "state", "start_of": "state", "play_to": "state"},
+    ("delays", "Delays"): {"delay": "state number"},
+    ("delays", "TimedRun"): {"plain": ""},
+    ("bench", "Workbench"): {
+        "set_board": "name board",
+        "remove_board": "name",
+        "replace_contact": "name number contact",
+        "insert_contact": "name number contact",
+        "remove_contact": "name number",
+        "ask": "name * word boards hurry",
+        "drop": "name",
+        "undo": "",
+        "redo": "",
+        "change_all": "changes",
+        "board_names": "",
+        "question_names": "",
+        "board": "name",
+        "question": "name",
+        "answer": "name",
+        "answers": "",
+    },
+    ("session", "Session"): {"run": "text"},
 }
 PARAMETERS = {
     "boards": {"same_face": "one other", "check_faces": "one other"},
@@ -171,6 +215,16 @@ PARAMETERS = {
         "check_settling": "board text",
         "check_agreeing": "one other text",
     },
+    "tidy": {
+        "Tidied": "board removed",
+        "tidy": "board * hurry limit",
+        "without_relay": "board name",
+        "idle_relays": "board * hurry limit",
+        "check_tidied": "board tidied * hurry limit",
+    },
+    "bench": {"Workbench": "", "decide": "word boards * hurry limit"},
+    "commands": {"split_words": "line", "is_number": "word", "is_command": "words"},
+    "session": {"Session": ""},
 }
 
 
@@ -210,6 +264,14 @@ class TestPackage(unittest.TestCase):
             for word, told in functions.items():
                 with self.subTest(name=name, word=word):
                     self.assertEqual(told_parameters(getattr(module_of(name), word)), told)
+
+    def test_parameters_of_methods(self):
+        for (name, word), methods in METHOD_PARAMETERS.items():
+            for method, told in methods.items():
+                with self.subTest(word=word, method=method):
+                    words = told_parameters(getattr(getattr(module_of(name), word), method)).split()
+                    own = [] if method == "is_name" else ["self"]
+                    self.assertEqual(words, own + told.split())
 
     def test_no_clock_no_random_numbers_no_files(self):
         for path in sorted(FOLDER.rglob("*.py")):
